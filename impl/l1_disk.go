@@ -60,7 +60,7 @@ func DiskRead(d Disk, s int64) []byte {
 	if !ValidDisk(d) || !hasSector(d, s) {
 		return nil
 	}
-	return copyBytes(lookSector(d, s))
+	return copyList(lookSector(d, s))
 }
 
 func DiskWrite(d Disk, s int64, data []byte) Disk {
@@ -81,7 +81,7 @@ func DiskCrash(d Disk, keep []bool) Disk {
 	if !ValidDisk(d) {
 		return Disk{}
 	}
-	data := copyBytes(d.Data)
+	data := copyList(d.Data)
 	for i, p := range d.Cache {
 		if i < len(keep) && keep[i] {
 			settle(data, p)
@@ -118,7 +118,7 @@ func (dev *device) write(s int64, data []byte) {
 		return
 	}
 	dev.spendFuel()
-	dev.Cache = append(dev.Cache, Pend{Sector: s, Data: copyBytes(data)})
+	dev.Cache = append(dev.Cache, Pend{Sector: s, Data: copyList(data)})
 }
 
 func (dev *device) sync() {
@@ -167,13 +167,13 @@ func hasSector(d Disk, s int64) bool {
 func copyDisk(d Disk) Disk {
 	var cache []Pend
 	for _, p := range d.Cache {
-		cache = append(cache, Pend{Sector: p.Sector, Data: copyBytes(p.Data)})
+		cache = append(cache, Pend{Sector: p.Sector, Data: copyList(p.Data)})
 	}
-	return Disk{Data: copyBytes(d.Data), Cache: cache, Fuel: d.Fuel, Dead: d.Dead}
+	return Disk{Data: copyList(d.Data), Cache: cache, Fuel: d.Fuel, Dead: d.Dead}
 }
 
-// copyBytes gives new memory also for an empty list, which slices.Clone does
+// copyList gives new memory also for an empty list, which slices.Clone does
 // not.
-func copyBytes(b []byte) []byte {
-	return append([]byte(nil), b...)
+func copyList[T any](list []T) []T {
+	return append([]T(nil), list...)
 }
