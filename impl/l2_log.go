@@ -270,9 +270,13 @@ func (sec *sector) putNumber(at int, width int, v int64) {
 }
 
 func (sec *sector) number(at int, width int) int64 {
+	return littleEndian(sec[at : at+width])
+}
+
+func littleEndian(b []byte) int64 {
 	v := int64(0)
-	for i := range width {
-		v |= int64(sec[at+i]) << (8 * i)
+	for i, x := range b {
+		v |= int64(x) << (8 * i)
 	}
 	return v
 }
